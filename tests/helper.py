@@ -1,4 +1,4 @@
-"""What the tests share: calls and answers in short, and a second, slower way to every answer."""
+"""What the tests share: calls and answers in short, and a second, slower way to the answers about a chain."""
 
 import random
 import unittest
