@@ -6,25 +6,30 @@ def solved(equations):
 
     An equation has the unknowns' factors, and behind them what they add up to. No leading square
     of the factors may have the determinant 0. All numbers stay whole: each is a determinant of
-    some of the equations, so the pivot before divides it without a rest.
+    some of the equations, so the lead before divides it without a rest.
     """
+    stairs = []
     left = equations
     before = 1
-    for pivot in range(len(equations)):
-        left = cleared(left, pivot, before)
-        before = left[pivot][pivot]
-    return ([equation[-1] for equation in left], before)
+    while len(left) > 0:
+        first = left[0]
+        stairs.append(first)
+        left = [shortened(equation, first, before) for equation in left[1:]]
+        before = first[0]
+    return (climbed(stairs, before), before)
 
 
-def cleared(equations, pivot, before):
-    """The equations without the unknown of this number, but in the equation of this number."""
-    chosen = equations[pivot]
-    lead = chosen[pivot]
-    made = []
-    for number, equation in enumerate(equations):
-        if number == pivot:
-            made.append(equation)
-        else:
-            factor = equation[pivot]
-            made.append([(lead * one - factor * other) // before for one, other in zip(equation, chosen)])
-    return made
+def shortened(equation, first, before):
+    """An equation without its first unknown."""
+    lead = first[0]
+    factor = equation[0]
+    return [(lead * one - factor * other) // before for one, other in zip(equation[1:], first[1:])]
+
+
+def climbed(stairs, bottom):
+    """The tops of all unknowns, from equations each of which has one unknown less than that before it."""
+    tops = []
+    for equation in reversed(stairs):
+        known = sum([factor * top for factor, top in zip(equation[1:-1], tops)])
+        tops = [(bottom * equation[-1] - known) // equation[0]] + tops
+    return tops

@@ -41,6 +41,21 @@ def lowest_over(top, bottom, base):
     return (top, bottom)
 
 
+def over_one_bottom(ratios):
+    """The tops of fractions over the least bottom that they can have together, and this bottom."""
+    bottom = 1
+    for ratio in ratios:
+        bottom = least_multiple(bottom, ratio[1])
+    return ([ratio[0] * (bottom // ratio[1]) for ratio in ratios], bottom)
+
+
+def product(one, other):
+    """Two fractions multiplied. Only across can they share a divisor, and so it is asked of short numbers."""
+    left = lowest(one[0], other[1])
+    right = lowest(other[0], one[1])
+    return (left[0] * right[0], left[1] * right[1])
+
+
 def shared_by_three(short, one, other):
     """The greatest divisor of all three, asked of the short number first so that it stays short."""
     shared = greatest_divisor(one, short)

@@ -1,5 +1,6 @@
 """What the tests share: calls and answers in short, and a second, slower way to the answers about a chain."""
 
+import math
 import random
 import unittest
 from fractions import Fraction
@@ -31,6 +32,20 @@ tell g
 CHAINS = (PLAY, ROUND, MIXED, ROUND_AND_OUT)
 
 
+def largest(ends):
+    """The text of a chain of 24 states, the last of them ends, with about as much in it as there is room for."""
+    source = random.Random(24)
+    names = [chr(97 + number) for number in range(24)]
+    lines = []
+    for number, name in enumerate(names):
+        goals = [names[(number + 1) % 24]] + source.sample(names[:number] + names[number + 2:], 5)
+        steps_of_one = [f"{goal} : {source.randint(1, 10 ** 9)}/{source.randint(1, 10 ** 9)}" for goal in goals]
+        worth = f"{number - 9}/{number + 1}"
+        way = " -> " + ", ".join(steps_of_one) if number < 24 - ends else ""
+        lines.append(f"{name} [{worth}]{way} ;")
+    return "chance Largest " + " ".join(lines) + " tell a"
+
+
 def load(text):
     data = list(text if isinstance(text, (bytes, list)) else text.encode())
     return [0, len(data)] + data
@@ -54,6 +69,33 @@ def come(i, j):
 
 def back(j):
     return [6, j]
+
+
+def visits(i, j):
+    return [7, i, j]
+
+
+def steps(i, some_states):
+    return [8, i, len(some_states)] + list(some_states)
+
+
+def gain(i):
+    return [9, i]
+
+
+CLASSES = [10]
+
+
+def steady(k):
+    return [11, k]
+
+
+def long(i):
+    return [12, i]
+
+
+def period(k):
+    return [13, k]
 
 
 def joined(*calls):
@@ -98,6 +140,37 @@ def chance(answer):
     """The fraction of an answer that is 1 and a fraction."""
     assert len(answer) == 3 and answer[0] == 1, answer
     return lowest_fraction(answer[1], answer[2])
+
+
+def average(answer):
+    """The same, or None where it is refused as without end."""
+    return None if answer == [-6] else chance(answer)
+
+
+def told_classes(answer):
+    """The classes of an answer: pairs of closed or not, and the states."""
+    told = []
+    at = 1
+    while at < len(answer):
+        told.append((answer[at], answer[at + 2:at + 2 + answer[at + 1]]))
+        assert len(told[-1][1]) == answer[at + 1]
+        at += 2 + answer[at + 1]
+    assert len(told) == answer[0]
+    return told
+
+
+def count_of(text):
+    """How many states a text's chain has."""
+    return ask_of(text, SIZES)[0][0]
+
+
+def all_steps(text):
+    """For each state its steps as the program tells them: pairs of a number and a chance."""
+    told = []
+    for answer in ask_of(text, *[state(i) for i in range(count_of(text))]):
+        rest = answer[2 + answer[1] + 3:]
+        told.append([(rest[at], Fraction(rest[at + 1], rest[at + 2])) for at in range(0, len(rest), 3)])
+    return told
 
 
 def lowest_fraction(top, bottom):
@@ -168,22 +241,16 @@ class Model:
     def come(self, j):
         """The chances to come to j from each state, by elimination over fractions."""
         unknowns = sorted(self.reaches(j) - {j})
-        table = []
-        for i in unknowns:
-            table.append([int(i == k) - self.chances[i][k] for k in unknowns] + [self.chances[i][j]])
-        for column in range(len(unknowns)):
-            pivot = next(at for at in range(column, len(unknowns)) if table[at][column])
-            table[column], table[pivot] = table[pivot], table[column]
-            table[column] = [value / table[column][column] for value in table[column]]
-            for at in range(len(unknowns)):
-                if at != column and table[at][column]:
-                    factor = table[at][column]
-                    table[at] = [one - factor * two for one, two in zip(table[at], table[column])]
         told = [Fraction(0)] * len(self.states)
         told[j] = Fraction(1)
-        for at, i in enumerate(unknowns):
-            told[i] = table[at][-1]
+        for i, value in zip(unknowns, self.unknown(unknowns, [self.chances[i][j] for i in unknowns])):
+            told[i] = value
         return told
+
+    def unknown(self, unknowns, right):
+        """The values of some states: each is what stands for it in the list, and what follows on average."""
+        rows = [[int(i == k) - self.chances[i][k] for k in unknowns] for i in unknowns]
+        return eliminated([row + [value] for row, value in zip(rows, right)])
 
     def back(self, j):
         if not self.steps[j]:
@@ -195,6 +262,80 @@ class Model:
         """Whether j can be come to from every state that can be come to from j."""
         home = self.reaches(j)
         return all(k in home for k in range(len(self.states)) if j in self.reaches(k))
+
+    def classes(self):
+        """All classes: pairs of closed or not, and the states."""
+        home = [self.reaches(j) for j in range(len(self.states))]
+        groups = []
+        for j in range(len(self.states)):
+            states = [k for k in home[j] if j in home[k]]
+            if j == min(states):
+                groups.append((int(self.closed(j)), sorted(states)))
+        return groups
+
+    def visits(self, i, j):
+        """None if they are without end. The walk is over at an end, so it is not counted on from there."""
+        if i not in self.reaches(j):
+            return 0
+        if self.closed(j):
+            return None if self.steps[j] else self.come(j)[i]
+        passing = [k for k in range(len(self.states)) if not self.closed(k)]
+        return self.unknown(passing, [int(k == j) for k in passing])[passing.index(i)]
+
+    def halted(self, some_states):
+        """The same chain with ends at some states."""
+        states = [(name, worth, [] if k in some_states else row) for k, (name, worth, row) in enumerate(self.states)]
+        return Model("Halted", states, self.start)
+
+    def expected_steps(self, i, some_states):
+        """None if it may be that none of the states is come to: if the chances to stop at them are not 1 together."""
+        halted = self.halted(some_states)
+        sure = [sum(row) == 1 for row in zip(*[halted.come(j) for j in some_states])]
+        if not some_states or not sure[i]:
+            return None
+        unknowns = [k for k in range(len(sure)) if sure[k] and k not in some_states]
+        return dict(zip(unknowns, self.unknown(unknowns, [1] * len(unknowns)))).get(i, 0)
+
+    def gain(self, i):
+        parts = [(Fraction(worth), self.visits(i, j)) for j, (_, worth, _) in enumerate(self.states) if worth]
+        return None if any(count is None for _, count in parts) else sum(worth * count for worth, count in parts)
+
+    def steady(self, states):
+        """The shares that a step leaves as they are, with the last such equation given up for the sum of 1."""
+        table = [[self.chances[i][j] - int(i == j) for i in states] + [0] for j in states[:-1]]
+        return eliminated(table + [[1] * len(states) + [1]])
+
+    def long(self, i):
+        told = [Fraction(0)] * len(self.states)
+        for closed, states in self.classes():
+            if closed:
+                for j, share in zip(states, self.steady(states)):
+                    told[j] = self.come(j)[i] * share
+        return told
+
+    def period(self, j):
+        """From the numbers of steps, up to four times the states, after which the walk may be back."""
+        divisor = 0
+        now = {j}
+        for n in range(1, 4 * len(self.states) + 1):
+            now = {k for i in now for k, share in enumerate(self.chances[i]) if share}
+            if j in now:
+                divisor = math.gcd(divisor, n)
+        return divisor
+
+
+def eliminated(table):
+    """The unknowns of equations over fractions; behind each equation's factors stands what they add up to."""
+    table = [[Fraction(value) for value in row] for row in table]
+    for column in range(len(table)):
+        pivot = next(at for at in range(column, len(table)) if table[at][column])
+        table[column], table[pivot] = table[pivot], table[column]
+        table[column] = [value / table[column][column] for value in table[column]]
+        for at in range(len(table)):
+            if at != column and table[at][column]:
+                factor = table[at][column]
+                table[at] = [one - factor * two for one, two in zip(table[at], table[column])]
+    return [row[-1] for row in table]
 
 
 def random_weight(source, most):

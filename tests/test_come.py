@@ -4,29 +4,20 @@ import unittest
 from fractions import Fraction
 
 from tests.helper import (
-    CHAINS, MIXED, PLAY, ROUND, ROUND_AND_OUT, SIZES, Model, after, ask_of, back, chance, come, random_model, shares,
-    state,
+    CHAINS, CLASSES, MIXED, PLAY, ROUND, ROUND_AND_OUT, after, all_steps, ask_of, back, chance, come, count_of,
+    random_model, shares, told_classes,
 )
 
 
 def all_come(text):
     """The chance to come from i to j, as told[i][j]."""
-    count = ask_of(text, SIZES)[0][0]
+    count = count_of(text)
     told = ask_of(text, *[come(i, j) for i in range(count) for j in range(count)])
     return [[chance(told[i * count + j]) for j in range(count)] for i in range(count)]
 
 
 def all_back(text):
-    return [chance(told) for told in ask_of(text, *[back(j) for j in range(ask_of(text, SIZES)[0][0])])]
-
-
-def all_steps(text):
-    """For each state its steps as the program tells them: pairs of a number and a chance."""
-    told = []
-    for answer in ask_of(text, *[state(i) for i in range(ask_of(text, SIZES)[0][0])]):
-        rest = answer[2 + answer[1] + 3:]
-        told.append([(rest[at], Fraction(rest[at + 1], rest[at + 2])) for at in range(0, len(rest), 3)])
-    return told
+    return [chance(told) for told in ask_of(text, *[back(j) for j in range(count_of(text))])]
 
 
 class TestCome(unittest.TestCase):
@@ -80,10 +71,9 @@ class TestCome(unittest.TestCase):
 
     def check_between(self, model, told, j):
         """With j made an end, the share at j is what has come there."""
-        halted = [(name, worth, [] if k == j else steps) for k, (name, worth, steps) in enumerate(model.states)]
-        text = Model("Halted", halted, model.start).form()
+        text = model.halted([j]).form()
         open_states = [k for k in model.reaches(j) if k != j]
-        for i in range(len(halted)):
+        for i in range(len(model.states)):
             for n in (0, 1, 2, 5, 20):
                 now = shares(ask_of(text, after(i, n))[0])
                 self.assertLessEqual(now[j], told[i][j])
@@ -135,6 +125,14 @@ class TestBack(unittest.TestCase):
             model = random_model(seed, most_states=8, most_steps=3)
             for j, share in enumerate(all_back(model.form())):
                 self.assertEqual(share == 1, model.closed(j) and bool(model.steps[j]))
+
+    def test_for_sure_just_in_the_closed_classes_that_are_told(self):
+        texts = list(CHAINS) + [random_model(seed, most_states=10, most_steps=3).form() for seed in range(60)]
+        for text in texts:
+            sure = [j for j, share in enumerate(all_back(text)) if share == 1]
+            ends = [j for j, row in enumerate(all_steps(text)) if not row]
+            groups = told_classes(ask_of(text, CLASSES)[0])
+            self.assertEqual(sure, sorted(j for closed, states in groups if closed for j in states if j not in ends))
 
     def test_it_is_the_next_step_and_then_to_come(self):
         for text in CHAINS:
